@@ -1,0 +1,1 @@
+"""A train's seats, booked for parts of its way."""
