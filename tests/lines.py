@@ -21,6 +21,22 @@ def row(booking):
     return [3, booking]
 
 
+def anew():
+    return [4]
+
+
+def free(from_stop, to_stop):
+    return [5, from_stop, to_stop]
+
+
+def who(seat, part):
+    return [6, seat, part]
+
+
+def state():
+    return [7]
+
+
 def line_of(calls):
     return [number for call in calls for number in call]
 
@@ -43,6 +59,14 @@ def ask(*calls):
     if len(split) != len(calls):
         raise ValueError(f"{len(calls)} calls, {len(split)} answers")
     return split
+
+
+def all_told(stops, seats):
+    """Calls that tell all there is to tell of a train, and change nothing."""
+    ways = [(from_stop, to_stop) for from_stop in range(stops) for to_stop in range(from_stop + 1, stops)]
+    places = [(seat, part) for seat in range(seats) for part in range(stops - 1)]
+    return ([state()] + [row(number) for number in range(41)] + [free(*way) for way in ways]
+            + [who(*place) for place in places])
 
 
 def ask_behind(before, *calls):

@@ -1,8 +1,8 @@
-"""Promise 1: begin with its refusal, and -61 of book where there is no train."""
+"""Promise 1: begin with its refusal, and -61 of book, anew, free and state where there is no train."""
 
 import unittest
 
-from lines import LARGEST, ask, ask_behind, begin, book, cancel, row
+from lines import LARGEST, anew, ask, ask_behind, begin, book, cancel, free, row, state, who
 
 
 class Begin(unittest.TestCase):
@@ -40,11 +40,21 @@ class Begin(unittest.TestCase):
         got = ask(begin(3, 1), book(0, 2), begin(3, 1), row(0), book(0, 2))
         self.assertEqual(got, [[0], [0, 0], [0], [-2], [0, 0]])
 
+    def test_state_free_and_who_behind_a_new_begin(self):
+        before = [begin(4, 2), book(0, 3), book(1, 2), book(0, 1), cancel(0)]
+        self.assertEqual(ask_behind(before, state(), free(1, 2), who(1, 1)), [[2, 3, 0], [1, 0], [1]])
+        got = ask_behind(before, begin(4, 2), state(), free(1, 2), who(1, 1), anew(), state())
+        self.assertEqual(got, [[0], [0, 0, 0], [2, 0, 1], [-6], [0], [0, 0, 0]])
+        got = ask_behind(before, begin(3, 4), state(), free(0, 2), free(0, 3), who(3, 1), who(0, 2))
+        self.assertEqual(got, [[0], [0, 0, 0], [4, 0, 1, 2, 3], [-22], [-6], [-2]])
+
     def test_refused_begin_keeps_the_train(self):
         before = [begin(4, 2), book(0, 3), book(1, 2), cancel(0)]
         for refused in (begin(1, 2), begin(18, 2), begin(4, 0), begin(4, 13), begin(LARGEST, LARGEST)):
             got = ask_behind(before, refused, row(0), row(1), book(0, 3), row(2), book(0, 4))
             self.assertEqual(got, [[-22], [-2], [1, 1, 1], [2, 0], [3, 0, 0, 0, 0], [-22]], refused)
+            got = ask_behind(before, refused, state(), free(0, 3), free(0, 4), who(1, 1), who(0, 2), who(0, 3))
+            self.assertEqual(got, [[-22], [1, 2, 0], [1, 0], [-22], [1], [-6], [-2]], refused)
 
 
 class NoTrain(unittest.TestCase):
@@ -55,15 +65,32 @@ class NoTrain(unittest.TestCase):
         for wrong in (book(1, 1), book(2, 1), book(0, 1, 2), book(LARGEST, LARGEST, LARGEST)):
             self.assertEqual(ask(wrong), [[-61]], wrong)
 
+    def test_anew_free_and_state_are_refused(self):
+        self.assertEqual(ask(anew(), free(0, 1), state()), [[-61], [-61], [-61]])
+        self.assertEqual(ask(state()), [[-61]])
+        self.assertEqual(ask(anew()), [[-61]])
+
+    def test_free_is_refused_so_whatever_else_is_wrong(self):
+        for wrong in (free(0, 0), free(2, 1), free(0, 17), free(LARGEST, 0), free(LARGEST, LARGEST)):
+            self.assertEqual(ask(wrong), [[-61]], wrong)
+
+    def test_who_knows_no_seat(self):
+        for place in ((0, 0), (11, 15), (0, LARGEST), (LARGEST, LARGEST)):
+            self.assertEqual(ask(who(*place)), [[-2]], place)
+
     def test_cancel_and_row_know_no_booking(self):
         self.assertEqual(ask(cancel(0), row(0), cancel(LARGEST), row(LARGEST)), [[-2], [-2], [-2], [-2]])
 
     def test_refused_begin_makes_no_train(self):
         self.assertEqual(ask(begin(1, 1), book(0, 1), begin(2, 13), book(0, 1)), [[-22], [-61], [-22], [-61]])
+        self.assertEqual(ask(begin(18, 1), anew(), free(0, 1), who(0, 0), state()),
+                         [[-22], [-61], [-61], [-2], [-61]])
 
     def test_train_can_be_begun_behind_refusals(self):
         got = ask(book(0, 1), cancel(0), row(0), begin(2, 1), book(0, 1))
         self.assertEqual(got, [[-61], [-2], [-2], [0], [0, 0]])
+        got = ask(anew(), free(0, 1), who(0, 0), state(), begin(2, 1), state(), free(0, 1), who(0, 0), anew())
+        self.assertEqual(got, [[-61], [-61], [-2], [-61], [0], [0, 0, 0], [1, 0], [-6], [0]])
 
 
 if __name__ == "__main__":

@@ -3,25 +3,41 @@
 import time
 import unittest
 
-from lines import LARGEST, ask, begin, book, cancel, line_of, row, split_answers
+from lines import LARGEST, anew, ask, begin, book, cancel, free, line_of, row, split_answers, state, who
 from trainseatsdesk.seating import answers
 
 SECONDS_FOR_A_LINE = 20
 
 
 class Lines(unittest.TestCase):
-    MIXED = [row(0), begin(5, 2), book(0, 4), book(1, 3), book(1, 2), cancel(0), book(0, 2, 1), row(1), row(2),
-             book(LARGEST, 0, LARGEST), begin(0, 0), cancel(7), begin(3, 1), book(0, 2), row(0)]
+    MIXED = [row(0), anew(), free(0, 1), who(0, 0), state(), begin(5, 2), book(0, 4), book(1, 3), book(1, 2),
+             state(), cancel(0), book(0, 2, 1), row(1), row(2), anew(), free(0, 4), free(3, 4), who(1, 1), who(0, 3),
+             book(LARGEST, 0, LARGEST), free(LARGEST, LARGEST), who(LARGEST, LARGEST), begin(0, 0), cancel(7),
+             state(), begin(3, 1), book(0, 2), row(0), anew(), free(0, 2), who(0, 1), state()]
 
     def test_answers_stand_behind_how_many_numbers_they_have(self):
         line = [0, 4, 2, 1, 0, 3, 0, 3, 0, 2, 0, 2, 0, 1, 3, 3, 0]
         self.assertEqual(answers(line), [1, 0, 2, 0, 0, 5, 3, 0, 0, 0, 0, 1, 0, 1, -2, 1, -22])
+
+    def test_no_numbers_stand_behind_anew_and_state(self):
+        line = [0, 3, 2, 4, 7, 1, 0, 2, 0, 7, 4, 5, 0, 2, 6, 0, 1, 6, 1, 1, 6, 2, 1, 5, 2, 2, 4, 7]
+        self.assertEqual(answers(line), [1, 0, 1, 0, 3, 0, 0, 0, 2, 0, 0, 3, 1, 1, 0, 1, 0, 2, 1, 1,
+                                         1, 0, 1, -6, 1, -2, 1, -22, 1, 0, 3, 1, 1, 0])
 
     def test_one_call(self):
         self.assertEqual(answers([0, 2, 1]), [1, 0])
         self.assertEqual(answers([1, 0, 1, 0]), [1, -61])
         self.assertEqual(answers([2, 0]), [1, -2])
         self.assertEqual(answers([3, 0]), [1, -2])
+        self.assertEqual(answers([4]), [1, -61])
+        self.assertEqual(answers([5, 0, 1]), [1, -61])
+        self.assertEqual(answers([6, 0, 0]), [1, -2])
+        self.assertEqual(answers([7]), [1, -61])
+
+    def test_free_tells_its_count_once(self):
+        # How many numbers are answered; how many seats; the seats.
+        self.assertEqual(answers([0, 2, 3, 5, 0, 1]), [1, 0, 4, 3, 0, 1, 2])
+        self.assertEqual(answers([0, 2, 1, 1, 0, 1, 0, 5, 0, 1]), [1, 0, 2, 0, 0, 1, 0])
 
     def test_whole_numbers_in_a_list(self):
         answered = answers(line_of(self.MIXED))
@@ -50,6 +66,8 @@ class Lines(unittest.TestCase):
     def test_nothing_is_kept_from_one_line_to_the_next(self):
         self.assertEqual(ask(begin(3, 1), book(0, 2)), [[0], [0, 0]])
         self.assertEqual(ask(book(0, 2), row(0), cancel(0)), [[-61], [-2], [-2]])
+        self.assertEqual(ask(anew(), free(0, 2), who(0, 0), state()), [[-61], [-61], [-2], [-61]])
+        self.assertEqual(ask(begin(3, 1), state(), free(0, 2), who(0, 0)), [[0], [0, 0, 0], [1, 0], [-6]])
 
 
 class Unchanged(list):
@@ -95,6 +113,27 @@ class LongLines(unittest.TestCase):
             size = len(one_train)
             self.assertEqual(split[:size], ask(*one_train))
             self.assertEqual(split[size:2 * size], split[:size])
+
+    def test_all_kinds(self):
+        one_train = [begin(17, 12)]
+        for k in range(44):
+            one_train += [book(k % 11, k % 11 + 1 + k % 6, k % 5 // 4), state(), free(k % 16, 16), who(k % 12, k % 16)]
+            one_train += [cancel(k - 2)] if k % 3 == 2 else [row(k)]
+            one_train += [anew()] if k % 7 == 6 else [free(0, 1 + k % 16)]
+        self.assertEqual({call[0] for call in one_train}, set(range(8)))
+        size = len(one_train)
+        split = self.answer_in_time((one_train * (5000 // size + 1))[:5000])
+        once = ask(*one_train)
+        for place, answer in enumerate(split):
+            self.assertEqual(answer, once[place % size])
+
+    def test_many_of_each_kind_on_a_full_train(self):
+        # Each of the forty bookings that can be, on as many parts as fit.
+        full = [begin(17, 12)] + [book(k % 4 * 4, k % 4 * 4 + 4) for k in range(40)]
+        for call in (anew(), free(0, 16), free(15, 16), who(9, 15), who(11, 15), state(), row(39)):
+            expected = ask(*full, call)[-1]
+            split = self.answer_in_time(full + [call] * 4959)
+            self.assert_all_are(expected, split[41:])
 
     def test_many_rows(self):
         split = self.answer_in_time([begin(17, 12), book(0, 16)] + [row(0)] * 4998)

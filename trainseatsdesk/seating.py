@@ -13,15 +13,19 @@ MOST_BOOKINGS = 40
 WRONG_VALUE = -22
 NO_TRAIN = -61
 TOO_MANY_BOOKINGS = -12
-NO_BOOKING = -2
+NO_SUCH = -2
+NOBODY = -6
 PART_FULL = -1000
 
 CALL_BEGIN = 0
 CALL_BOOK = 1
 CALL_CANCEL = 2
 CALL_ROW = 3
+CALL_ANEW = 4
+CALL_FREE = 5
+CALL_WHO = 6
 # By the call's number: how many numbers stand behind it.
-NUMBERS_BEHIND = (2, 3, 1, 1)
+NUMBERS_BEHIND = (2, 3, 1, 1, 0, 2, 2, 0)
 
 OTHERS_STAY = 0
 ALL_SEATED_AT_ONCE = 1
@@ -69,6 +73,14 @@ def fewest_changes_row(free_by_part):
         seat_before = min(choices)[1]
         row.append(seat_before)
     return row
+
+
+def free_all_the_way(free_by_part):
+    """The seats that are free on each of the parts, rising; there is at least one part."""
+    free_so_far = free_by_part[0]
+    for free_seats in free_by_part:
+        free_so_far = [seat for seat in free_so_far if seat in free_seats]
+    return free_so_far
 
 
 def least_seat_left(gets_out, from_stop):
@@ -126,6 +138,10 @@ class Train:
     def is_way(self, from_stop, to_stop):
         return from_stop < to_stop < self.stops
 
+    def is_place(self, seat, part):
+        """Whether there is such a seat, and such a part: there is one part less than stops."""
+        return seat < self.seats and part < self.stops - 1
+
     def live_bookings(self):
         """Those that are not cancelled, by their numbers."""
         return [booking for booking in self.bookings if not booking.cancelled]
@@ -134,6 +150,20 @@ class Train:
         """The seats that are free on the part, rising."""
         taken = [booking.seat_on(part) for booking in self.live_bookings() if booking.has_part(part)]
         return [seat for seat in range(self.seats) if seat not in taken]
+
+    def free_by_part(self, from_stop, to_stop):
+        return [self.free_on(part) for part in range(from_stop, to_stop)]
+
+    def who_has(self, seat, part):
+        """The number of the booking that has the seat on the part; None if nobody has it."""
+        for number, booking in enumerate(self.bookings):
+            if not booking.cancelled and booking.has_part(part) and booking.seat_on(part) == seat:
+                return number
+        return None
+
+    def all_changes(self):
+        """How often those that are not cancelled change, all together."""
+        return sum([count_changes(booking.row) for booking in self.live_bookings()])
 
     def seat_all_at_once(self):
         live = self.live_bookings()
@@ -163,7 +193,7 @@ class Desk:
         number = len(train.bookings)
         if number == MOST_BOOKINGS:
             return [TOO_MANY_BOOKINGS]
-        free_by_part = [train.free_on(part) for part in range(from_stop, to_stop)]
+        free_by_part = train.free_by_part(from_stop, to_stop)
         for part, free_seats in enumerate(free_by_part, start=from_stop):
             if len(free_seats) == 0:
                 return [PART_FULL - part]
@@ -185,15 +215,44 @@ class Desk:
     def cancel(self, number):
         booking = self.live_booking(number)
         if booking is None:
-            return [NO_BOOKING]
+            return [NO_SUCH]
         booking.cancelled = True
         return [len(self.train.live_bookings())]
 
     def tell_row(self, number):
         booking = self.live_booking(number)
         if booking is None:
-            return [NO_BOOKING]
+            return [NO_SUCH]
         return [len(booking.row), booking.from_stop] + booking.row
+
+    def anew(self):
+        train = self.train
+        if train is None:
+            return [NO_TRAIN]
+        changes_before = train.all_changes()
+        train.seat_all_at_once()
+        return [changes_before]
+
+    def free(self, from_stop, to_stop):
+        train = self.train
+        if train is None:
+            return [NO_TRAIN]
+        if not train.is_way(from_stop, to_stop):
+            return [WRONG_VALUE]
+        seats = free_all_the_way(train.free_by_part(from_stop, to_stop))
+        return [len(seats)] + seats
+
+    def who(self, seat, part):
+        if self.train is None or not self.train.is_place(seat, part):
+            return [NO_SUCH]
+        number = self.train.who_has(seat, part)
+        return [NOBODY if number is None else number]
+
+    def state(self):
+        train = self.train
+        if train is None:
+            return [NO_TRAIN]
+        return [len(train.live_bookings()), len(train.bookings), train.all_changes()]
 
 
 def answer_call(desk, call, numbers):
@@ -203,7 +262,15 @@ def answer_call(desk, call, numbers):
         return desk.book(numbers[0], numbers[1], numbers[2])
     if call == CALL_CANCEL:
         return desk.cancel(numbers[0])
-    return desk.tell_row(numbers[0])
+    if call == CALL_ROW:
+        return desk.tell_row(numbers[0])
+    if call == CALL_ANEW:
+        return desk.anew()
+    if call == CALL_FREE:
+        return desk.free(numbers[0], numbers[1])
+    if call == CALL_WHO:
+        return desk.who(numbers[0], numbers[1])
+    return desk.state()
 
 
 def answers(calls):
